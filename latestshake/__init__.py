@@ -1,0 +1,1 @@
+"""Latestshake: all places and moments that told arrivals allow, exactly."""
