@@ -9,7 +9,7 @@ def sign_heard(point, place, moment):
     """- 1, 0, 1 as a shake of the point is heard at the place ahead of the moment, at it, behind it."""
     wholes, square, bottom = with_one_root(point[:3], point[3])
     (east, north, late), scale = on_one_bottom([*place, moment])
-    (x, x_factor), (y, y_factor), (t, t_factor) = [(part * scale, factor * scale) for part, factor in wholes]
+    (x, x_factor), (y, y_factor), (t, t_factor) = [(p * scale, q * scale) for p, q in wholes]
     x, y, t = x - east * bottom, y - north * bottom, t - late * bottom
     if sign_with_root(t, t_factor, square) > 0:
         return 1
