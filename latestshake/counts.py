@@ -1,7 +1,7 @@
 """Checks of the whole numbers by which floors and figures are asked for."""
 
 from latestshake.errors import InvalidCount
-from latestshake.wholes import is_whole
+from latestshake.kinds import is_whole
 
 MOST_PLACES = 40
 

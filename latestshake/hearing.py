@@ -1,14 +1,23 @@
-"""When a shake of a point is heard at a place of fractions, by signs with one root. Nothing is checked here."""
+"""When a shake of a point is heard at a place of fractions, by signs with one root. Nothing is checked here.
+
+A *spot* is a point in whole numbers: the pairs (part, factor) of its x, y and t, the square under their root, and the
+bottom of all. Places, moments and sides are told by their tops, brought to one bottom.
+"""
 
 from math import isqrt
 
 from latestshake.wholes import floor_with_root, on_one_bottom, sign_with_root, with_one_root
 
 
-def sign_heard(point, place, moment):
-    """- 1, 0, 1 as a shake of the point is heard at the place ahead of the moment, at it, behind it."""
-    wholes, square, bottom = with_one_root(point[:3], point[3])
-    (east, north, late), scale = on_one_bottom([*place, moment])
+def spot_of(point):
+    """The spot of a point."""
+    return with_one_root(point[:3], point[3])
+
+
+def sign_heard_at(spot, tops, scale):
+    """- 1, 0, 1 as a shake of the spot is heard ahead of, at, behind the moment that tops tell behind their place."""
+    wholes, square, bottom = spot
+    east, north, late = tops
     (x, x_factor), (y, y_factor), (t, t_factor) = [(p * scale, q * scale) for p, q in wholes]
     x, y, t = x - east * bottom, y - north * bottom, t - late * bottom
     if sign_with_root(t, t_factor, square) > 0:
@@ -17,9 +26,15 @@ def sign_heard(point, place, moment):
     return sign_with_root(part, 2 * (x * x_factor + y * y_factor - t * t_factor), square)
 
 
+def sign_heard(point, place, moment):
+    """- 1, 0, 1 as a shake of the point is heard at the place ahead of the moment, at it, behind it."""
+    tops, scale = on_one_bottom([*place, moment])
+    return sign_heard_at(spot_of(point), tops, scale)
+
+
 def floor_heard(point, place, many):
     """The greatest whole number k so that a shake of the point is not heard at the place ahead of k / many."""
-    wholes, square, bottom = with_one_root(point[:3], point[3])
+    wholes, square, bottom = spot_of(point)
     (east, north), scale = on_one_bottom(place)
     (x, x_factor), (y, y_factor), (t, t_factor) = wholes
     x, x_factor, y, y_factor = x * scale, x_factor * scale, y * scale, y_factor * scale
@@ -36,10 +51,15 @@ def floor_heard(point, place, many):
     return low
 
 
-def sign_beyond(point, side):
-    """- 1, 0, 1 as the place of the point is within the side, on its line, beyond it."""
-    wholes, square, bottom = with_one_root(point[:2], point[3])
-    (east, north, limit), _ = on_one_bottom(side)
-    (x, x_factor), (y, y_factor) = wholes
+def sign_beyond_at(spot, tops):
+    """- 1, 0, 1 as the place of the spot is within the side of these tops, on its line, beyond it."""
+    ((x, x_factor), (y, y_factor), _), square, bottom = spot
+    east, north, limit = tops
     part = east * x + north * y - limit * bottom
     return sign_with_root(part, east * x_factor + north * y_factor, square)
+
+
+def sign_beyond(point, side):
+    """- 1, 0, 1 as the place of the point is within the side, on its line, beyond it."""
+    tops, _ = on_one_bottom(side)
+    return sign_beyond_at(spot_of(point), tops)

@@ -5,13 +5,14 @@ from math import gcd
 from latestshake.counts import need_many, need_places
 from latestshake.decimals import ten_to, with_point
 from latestshake.errors import InvalidFraction, InvalidNumber
+from latestshake.kinds import is_tuple_of, is_whole
 from latestshake.ratios import NIL, added, multiplied, root_of
-from latestshake.wholes import floor_with_root, is_whole, sign_with_root, sign_with_two_roots, with_one_root
+from latestshake.wholes import floor_with_root, sign_with_root, sign_with_two_roots, with_one_root
 
 
 def is_fraction(value):
     """Whether a value, whatever it is, is a pair of whole numbers in lowest terms, the second one above 0."""
-    if not isinstance(value, tuple) or len(value) != 2:
+    if not is_tuple_of(value, 2, 2):
         return False
     top, bottom = value
     return is_whole(top) and is_whole(bottom) and bottom > 0 and gcd(top, bottom) == 1
@@ -19,7 +20,7 @@ def is_fraction(value):
 
 def is_number(value):
     """Whether a value, whatever it is, is a triple of fractions, the last one from 0 on."""
-    if not isinstance(value, tuple) or len(value) != 3:
+    if not is_tuple_of(value, 3, 3):
         return False
     return all([is_fraction(part) for part in value]) and value[2][0] >= 0
 
@@ -49,6 +50,15 @@ def order_of(number, other):
     other_part, other_factor, other_square, other_bottom = in_wholes(other)
     left = part * other_bottom - other_part * bottom
     return sign_with_two_roots(left, factor * other_bottom, square, -other_factor * bottom, other_square)
+
+
+def first_furthest(numbers, way):
+    """The first one of the greatest numbers for the way 1, of the least ones for - 1; None of no numbers."""
+    found = None
+    for number in numbers:
+        if found is None or order_of(number, found) == way:
+            found = number
+    return found
 
 
 def floor_of(number, many):

@@ -4,6 +4,7 @@ from latestshake.counts import need_many, need_places
 from latestshake.decimals import ten_to, with_point
 from latestshake.errors import InvalidPoint, InvalidWord
 from latestshake.hearing import floor_heard, sign_beyond, sign_heard
+from latestshake.kinds import is_tuple_of
 from latestshake.numbers import is_fraction, need_fraction, order_of
 from latestshake.sides import need_side
 
@@ -14,14 +15,14 @@ ORDER = (2, 0, 1)
 
 def is_pair(value):
     """Whether a value, whatever it is, is a pair of fractions."""
-    if not isinstance(value, tuple) or len(value) != 2:
+    if not is_tuple_of(value, 2, 2):
         return False
     return is_fraction(value[0]) and is_fraction(value[1])
 
 
 def is_point(value):
     """Whether a value, whatever it is, is a triple of pairs of fractions and, behind them, a fraction from 0 on."""
-    if not isinstance(value, tuple) or len(value) != 4:
+    if not is_tuple_of(value, 4, 4):
         return False
     if not all([is_pair(pair) for pair in value[:3]]):
         return False

@@ -3,6 +3,7 @@
 from math import gcd, isqrt
 
 NIL = (0, 1)
+ONE = (1, 1)
 
 
 def reduced(top, bottom):
@@ -16,9 +17,19 @@ def added(first, second):
     return reduced(first[0] * second[1] + second[0] * first[1], first[1] * second[1])
 
 
+def negative(fraction):
+    """The fraction with the other sign."""
+    return -fraction[0], fraction[1]
+
+
 def multiplied(first, second):
     """The first fraction times the second one."""
     return reduced(first[0] * second[0], first[1] * second[1])
+
+
+def is_above(first, second):
+    """Whether the first fraction is above the second one."""
+    return first[0] * second[1] > second[0] * first[1]
 
 
 def root_of(fraction):

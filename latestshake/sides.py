@@ -1,19 +1,46 @@
 """Sides (U, V, C): the places (x, y) with U x + V y up to C are within it."""
 
 from latestshake.errors import InvalidSide
+from latestshake.kinds import is_tuple_of
 from latestshake.numbers import is_fraction
+from latestshake.ratios import added, multiplied, negative
+
+
+def wrong_in_side(value):
+    """The path of what is wrong first in a value, whatever it is; None for a side."""
+    if not is_tuple_of(value, 3, 3):
+        return ()
+    for index, part in enumerate(value):
+        if not is_fraction(part):
+            return (index,)
+    if value[0][0] == 0 and value[1][0] == 0:
+        return ()
+    return None
 
 
 def is_side(value):
     """Whether a value, whatever it is, is a triple of fractions, the first two not both 0."""
-    if not isinstance(value, tuple) or len(value) != 3:
-        return False
-    if not all([is_fraction(part) for part in value]):
-        return False
-    return value[0][0] != 0 or value[1][0] != 0
+    return wrong_in_side(value) is None
 
 
 def need_side(side):
     """Refuse what is no side."""
     if not is_side(side):
         raise InvalidSide(side)
+
+
+def leads_on(sides, way):
+    """Whether no side ends a way, however far it is followed."""
+    east, north = way
+    return all([added(multiplied(u, east), multiplied(v, north))[0] <= 0 for u, v, _ in sides])
+
+
+def do_bound(sides):
+    """Whether all places within the sides lie in some box, for sides that let a place."""
+    if len(sides) == 0:
+        return False
+    # Of the ways that lead on within some sides an outermost one is along the line of one of them.
+    for u, v, _ in sides:
+        if leads_on(sides, (negative(v), u)) or leads_on(sides, (v, negative(u))):
+            return False
+    return True

@@ -6,11 +6,6 @@ A number (P, Q, R) is written in whole numbers as (part + factor * root(square))
 from math import isqrt, lcm
 
 
-def is_whole(value):
-    """Whether a value, whatever it is, is a whole number."""
-    return isinstance(value, int) and not isinstance(value, bool)
-
-
 def sign_of_whole(whole):
     """The sign of a whole number: - 1, 0, 1."""
     if whole > 0:

@@ -1,7 +1,11 @@
-"""What several test files need: values of every wrong kind, refusals, and numbers by many decimals."""
+"""What several test files need: values of every wrong kind, refusals, numbers by many decimals, small scenes."""
 
+import math
+import random
 from decimal import Decimal, localcontext
 from fractions import Fraction
+
+from latestshake.errors import InvalidScene
 
 NIL, ONE, TWO = (0, 1), (1, 1), (2, 1)
 
@@ -49,32 +53,116 @@ WRONG_SIDES = ODD + [
     (ONE, None, ONE), (None, ONE, ONE), ([1, 1], ONE, ONE), (ONE, [1, 1], ONE), (ONE, ONE, [1, 1]),
     ((True, 1), ONE, ONE), (ONE, (1, 0), ONE), "111",
 ]
+WRONG_PAIRS = ODD + [
+    0, 1, ONE, (ONE,), (ONE, ONE, ONE), (ONE, (2, 4)), ((2, 4), ONE), (ONE, 1), (1, ONE), (ONE, None), (None, ONE),
+    [ONE, ONE], (ONE, [1, 1]), ([1, 1], ONE), (ONE, (True, 1)), ((1, 0), ONE), (ONE, (0, 2)), (PAIR, PAIR), (PAIR,), "11",
+]
+QUARTER = (NIL, ONE, False, (ONE, NIL), TWO, (3, 1))
+WRONG_LEADS = ODD + [
+    0, 1, ONE, PAIR, QUARTER[:5], QUARTER + (ONE,), list(QUARTER), (QUARTER,), (ONE, ONE, *QUARTER[2:]),
+    (NIL, NIL, *QUARTER[2:]), ((3, 5), (3, 5), *QUARTER[2:]), ((1, 2), (1, 2), *QUARTER[2:]), (TWO, NIL, *QUARTER[2:]),
+    (0, 1, *QUARTER[2:]), ((0, 2), ONE, *QUARTER[2:]), (NIL, (2, 2), *QUARTER[2:]), (None, ONE, *QUARTER[2:]),
+    (*QUARTER[:2], 0, *QUARTER[3:]), (*QUARTER[:2], 1, *QUARTER[3:]), (*QUARTER[:2], None, *QUARTER[3:]),
+    (*QUARTER[:2], "False", *QUARTER[3:]), (*QUARTER[:2], NIL, *QUARTER[3:]), (*QUARTER[:2], (), *QUARTER[3:]),
+    (*QUARTER[:3], ONE, *QUARTER[4:]), (*QUARTER[:3], (ONE, (2, 4)), *QUARTER[4:]), (*QUARTER[:3], None, *QUARTER[4:]),
+    (*QUARTER[:3], [ONE, NIL], *QUARTER[4:]), (*QUARTER[:3], (ONE, NIL, NIL), *QUARTER[4:]),
+    (*QUARTER[:4], NIL, ONE), (*QUARTER[:4], (-1, 1), ONE), (*QUARTER[:4], 2, ONE), (*QUARTER[:4], (2, 4), ONE),
+    (*QUARTER[:4], None, ONE), (*QUARTER[:5], (2, 4)), (*QUARTER[:5], 3), (*QUARTER[:5], None), (*QUARTER[:5], (1, 0)),
+]
 WRONG_WORDS = ODD + [0, 1, 2, "X", "T", "xy", "x ", " t", "r", "xyt", ("x",), ["x"], b"x", ONE]
+
+
+WRONG_NAMES = [row for row in ODD if row != "root"] + [
+    0, 1, "A", "Ab", "aB", "abcdefghijkl" + "m", "z" * 13, "a" * 1000, "a b", " a", "a ", "a\n", "a1", "a_", "a-b", "a;",
+    "station", "at", "heard", "from", "to", "side", "up", "\u00e4", "a\u00e9", "\uff41", "\u0430", ("a",), ["a"], b"a",
+]
+SCENE = (
+    (("a", NIL, NIL), ("b", (6, 1), NIL), ("abcdefghijkl", (3, 2), (-4, 3)), ("stations", NIL, (9, 1))),
+    (("b", NIL, (5, 1)), ("a", None, (5, 1)), ("stations", (1, 2), None), ("b", ONE, ONE), ("a", (-7, 2), (-10, 3))),
+    ((NIL, (-1, 1), (-4, 1)), (ONE, NIL, (9, 1)), ((1, 2), (-2, 3), NIL)),
+)
+
+
+def changed(value, path, part):
+    """A tuple with another part at the end of a path."""
+    if path == ():
+        return part
+    return (*value[:path[0]], changed(value[path[0]], path[1:], part), *value[path[0] + 1:])
+
+
+def path_in(value, path):
+    """The path of what is wrong first where a value of ODD stands at a path of SCENE."""
+    if path in ((0,), (1,), (2,)):
+        return (*path, 0) if isinstance(value, tuple) and value else path
+    return (*path, 0) if isinstance(value, tuple) and len(value) == 3 else path
+
+
+def wrong_parts():
+    """Triples of a path in SCENE, what is put there, and the path that is then wrong first."""
+    for path in [(), (0,), (1,), (2,)] + [(0, k) for k in range(4)] + [(1, k) for k in range(5)] + [(2, k) for k in range(3)]:
+        odd = ODD if path not in ((1,), (2,)) else [value for value in ODD if value != ()]
+        yield from [(path, value, path_in(value, path)) for value in [*odd, 0, 7, ONE]]
+        if len(path) != 1:
+            row = SCENE if path == () else SCENE[path[0]][path[1]]
+            yield from [(path, value, path) for value in (row[:2], (*row, row[0]), list(row), (row,), (*row, NIL, NIL))]
+    for k in range(4):
+        yield from [((0, k, 0), value, (0, k, 0)) for value in WRONG_NAMES]
+        yield from [((0, k, at), value, (0, k, at)) for at in (1, 2) for value in WRONG_FRACTIONS]
+        for other in range(k):
+            yield (0, k, 0), SCENE[0][other][0], (0, k)
+            yield (0, k), (SCENE[0][k][0], *SCENE[0][other][1:]), (0, k)
+    for k in range(5):
+        yield from [((1, k, 0), value, (1, k, 0)) for value in [*WRONG_NAMES, "c", "ab", "station", "root"]]
+        told = [value for value in WRONG_FRACTIONS if value is not None]
+        yield from [((1, k, at), value, (1, k, at)) for at in (1, 2) for value in told]
+        for ends in ((None, None), (TWO, ONE), (ONE, (999, 1000)), ((1, 10 ** 399), NIL), ((-1, 3), (-1, 2))):
+            yield (1, k), ("a", *ends), (1, k)
+    for k in range(3):
+        yield from [((2, k, at), value, (2, k, at)) for at in (0, 1, 2) for value in WRONG_FRACTIONS]
+        yield from [((2, k), (NIL, NIL, limit), (2, k)) for limit in (NIL, ONE, (-1, 2))]
+    many = [("s" + "abcdefghijklm"[k], (k, 1), NIL) for k in range(13)]
+    yield (0,), tuple(many), (0,)
+    yield (0,), tuple(many + many), (0,)
+    yield (1,), (SCENE[1] * 3)[:13], (1,)
+    yield (2,), SCENE[2] * 3, (2,)
+
+
+WRONG_SCENES = [(changed(SCENE, path, part), wrong) for path, part, wrong in wrong_parts()]
 
 
 def refusals(test, function, signature):
     """Each argument wrong in turn, those behind it right, then wrong, too: by position, by name, in any order.
 
-    signature tells (name, right value, class of its error, wrong values) for each argument.
+    signature tells (name, right value, class of its error, wrong values) for each argument; for InvalidScene the wrong
+    values are pairs of a value and its path.
     """
     right = [row[1] for row in signature]
     names = [row[0] for row in signature]
     function(*right)
     test.assertEqual(function(*right), function(**dict(reversed(list(zip(names, right))))))
     for index, (name, _, error, wrong) in enumerate(signature):
-        for at, value in enumerate(wrong):
-            also = [row[3][(at + 1) % len(row[3])] for row in signature[index + 1:]]
+        for at, value in enumerate(values_of(error, wrong)):
+            behind = [values_of(row[2], row[3]) for row in signature[index + 1:]]
+            also = [values[(at + 1) % len(values)] for values in behind]
             ahead = right[:index] + [value]
+            path = wrong[at][1] if error is InvalidScene else None
             for arguments in (ahead + right[index + 1:], ahead + also):
-                refused(test, error, value, lambda: function(*arguments))
-                refused(test, error, value, lambda: function(**dict(reversed(list(zip(names, arguments))))))
+                refused(test, error, value, lambda: function(*arguments), path)
+                refused(test, error, value, lambda: function(**dict(reversed(list(zip(names, arguments))))), path)
 
 
-def refused(test, error, value, call):
+def values_of(error, wrong):
+    return [value for value, _ in wrong] if error is InvalidScene else wrong
+
+
+def refused(test, error, value, call, path=None):
     with test.assertRaises(error) as caught:
         call()
     test.assertIs(caught.exception.__class__, error)
-    test.assertIs(caught.exception.given, value)
+    if error is InvalidScene:
+        test.assertEqual(caught.exception.path, path)
+    else:
+        test.assertIs(caught.exception.given, value)
 
 
 def as_fraction(number):
@@ -102,6 +190,79 @@ def sign_by_decimals(value, digits=300):
         if abs(value) < Decimal(10) ** -(digits // 2):
             return 0
         return 1 if value > 0 else -1
+
+
+def point(x, y, t, root=0):
+    """A point of whole numbers, Fractions, or pairs of such."""
+    rows = [row if isinstance(row, tuple) else (row, 0) for row in (x, y, t)]
+    return (*[(pair_of(part), pair_of(factor)) for part, factor in rows], pair_of(root))
+
+
+def told_alike(value, factor):
+    """The same place and moment by another quadruple."""
+    *pairs, root = value
+    pairs = [(as_fraction(part), as_fraction(times) * factor) for part, times in pairs]
+    return point(*pairs, as_fraction(root) / factor ** 2)
+
+
+def heard_decimal(value, east, north, digits=300):
+    """When a shake is heard, by so many digits."""
+    with localcontext() as context:
+        context.prec = digits
+        x, y, t = [decimal_of((*pair, value[3]), digits) for pair in value[:3]]
+        x -= Decimal(east.numerator) / Decimal(east.denominator)
+        y -= Decimal(north.numerator) / Decimal(north.denominator)
+        return t + (x * x + y * y).sqrt()
+
+
+def scene_of(stations, readings, sides):
+    """A scene of whole numbers, Fractions and None."""
+    return (
+        tuple((name, pair_of(x), pair_of(y)) for name, x, y in stations),
+        tuple((name, *[None if end is None else pair_of(end) for end in ends]) for name, *ends in readings),
+        tuple(tuple(pair_of(part) for part in side) for side in sides),
+    )
+
+
+def some_scenes(seed, many, most_readings=5):
+    """Small scenes, about half of which fit: what some shake would be heard as, with errors, some greater than told."""
+    chance = random.Random(seed)
+    for _ in range(many):
+        places = chance.sample([(x, y) for x in range(-4, 5) for y in range(-4, 5)], chance.randint(1, 4))
+        stations = [("abcd"[index], *place) for index, place in enumerate(places)]
+        east, north = chance.randint(-4, 4), chance.randint(-4, 4)
+        readings = []
+        for _ in range(chance.randint(0, most_readings)):
+            name, x, y = chance.choice(stations)
+            middle = Fraction(math.isqrt(4 * (x - east) ** 2 + 4 * (y - north) ** 2) + chance.randint(-2, 2), 2)
+            wide = Fraction(chance.randint(0, 4), chance.choice([2, 3]))
+            readings.append((name, *chance.choice([(middle - wide, middle + wide)] * 3 + [(middle, None), (None, middle)])))
+        sides = []
+        for _ in range(chance.choice([0, 0, 1, 2, 3, 4])):
+            u, v = chance.choice([(u, v) for u in range(-2, 3) for v in range(-2, 3) if u or v])
+            sides.append((u, v, Fraction(chance.randint(-3, 9), chance.choice([1, 2]))))
+        yield scene_of(stations, readings, sides)
+
+
+def some_leads():
+    """Leads of each kind: turned by some angles, mirrored or not, shifted, stretched, later."""
+    turns = [(1, 0), (0, 1), (-1, 0), (0, -1), (Fraction(3, 5), Fraction(4, 5)), (Fraction(-5, 13), Fraction(12, 13)),
+             (Fraction(8, 17), Fraction(-15, 17))]
+    moves = [(0, 0, 1, 0), (1, -2, 1, 0), (0, 0, 2, 0), (0, 0, 1, 3), (Fraction(1, 2), 3, Fraction(2, 3), Fraction(-5, 4))]
+    for a, b in turns:
+        for is_mirrored in (False, True):
+            for east, north, by, later in moves:
+                yield (pair_of(a), pair_of(b), is_mirrored, (pair_of(east), pair_of(north)), pair_of(by), pair_of(later))
+
+
+def led_point(lead, value):
+    """Where a lead leads a point: part and factor of each number by themselves, the root as it was."""
+    a, b, by = [as_fraction(lead[index]) for index in (0, 1, 4)]
+    shift = [as_fraction(part) for part in (*lead[3], lead[5])]
+    (x, x_factor), (y, y_factor), (t, t_factor) = [[as_fraction(part) for part in pair] for pair in value[:3]]
+    y, y_factor = (-y, -y_factor) if lead[2] else (y, y_factor)
+    pairs = [(a * x - b * y, a * x_factor - b * y_factor), (b * x + a * y, b * x_factor + a * y_factor), (t, t_factor)]
+    return (*[(pair_of(by * part + more), pair_of(by * factor)) for (part, factor), more in zip(pairs, shift)], value[3])
 
 
 def pell(figures):

@@ -39,7 +39,7 @@ class Examples(unittest.TestCase):
                 many += 1
                 with self.subTest(line=line):
                     self.assertEqual(answer(line, names), told)
-        self.assertEqual(many, 6)
+        self.assertEqual(many, 19)
 
 
 if __name__ == "__main__":

@@ -105,6 +105,20 @@ class Language(unittest.TestCase):
                 found |= {target.id for target in node.targets}
         return found
 
+    def test_library_is_only_called(self):
+        for name, tree in trees():
+            words = {row.name for node in tree.body if isinstance(node, ast.ImportFrom) and node.module in LIBRARY
+                     for row in node.names}
+            called = set()
+            for node in ast.walk(tree):
+                if isinstance(node, ast.Call) and isinstance(node.func, ast.Name) and node.func.id in words:
+                    called.add(id(node.func))
+                    self.assertEqual(node.keywords, [], (name, node.lineno))
+                    self.assertFalse(any(isinstance(row, ast.Starred) for row in node.args), (name, node.lineno))
+            for node in ast.walk(tree):
+                if isinstance(node, ast.Name) and node.id in words:
+                    self.assertIn(id(node), called, (name, node.lineno))
+
     def test_module_level(self):
         allowed = (ast.ImportFrom, ast.FunctionDef, ast.ClassDef, ast.Assign)
         for name, tree in trees():

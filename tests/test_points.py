@@ -6,17 +6,11 @@ import unittest
 from decimal import Decimal, localcontext
 from fractions import Fraction
 
-from helping import (NIL, ONE, TWO, WRONG_COUNTS, WRONG_FRACTIONS, WRONG_PLACES, WRONG_POINTS, WRONG_SIDES, WRONG_WORDS,
-                     as_fraction, decimal_of, pair_of, pell, refusals, sign_by_decimals)
+from helping import (NIL, ONE, WRONG_COUNTS, WRONG_FRACTIONS, WRONG_PLACES, WRONG_POINTS, WRONG_SIDES, WRONG_WORDS,
+                     as_fraction, decimal_of, heard_decimal, pair_of, pell, point, refusals, sign_by_decimals, told_alike)
 from latestshake.errors import InvalidCount, InvalidFraction, InvalidPoint, InvalidSide, InvalidWord
 from latestshake.numbers import compared, floor_at, is_number
 from latestshake.points import beyond, heard_figures, heard_floor, heard_sign, is_point, number_of, ordered
-
-
-def point(x, y, t, root=0):
-    """A point of whole numbers, Fractions, or pairs of such."""
-    rows = [row if isinstance(row, tuple) else (row, 0) for row in (x, y, t)]
-    return (*[(pair_of(part), pair_of(factor)) for part, factor in rows], pair_of(root))
 
 
 STILL = point(3, 4, 0)
@@ -43,23 +37,6 @@ def some_points(seed, many, size):
 def some_fractions(seed, many, size):
     chance = random.Random(seed)
     return [Fraction(chance.randint(-size, size), chance.randint(1, 4)) for _ in range(many)]
-
-
-def told_alike(value, factor):
-    """The same place and moment by another quadruple."""
-    *pairs, root = value
-    pairs = [(as_fraction(part), as_fraction(times) * factor) for part, times in pairs]
-    return point(*pairs, as_fraction(root) / factor ** 2)
-
-
-def heard_decimal(value, east, north, digits=300):
-    """When a shake is heard, by so many digits."""
-    with localcontext() as context:
-        context.prec = digits
-        x, y, t = [decimal_of((*pair, value[3]), digits) for pair in value[:3]]
-        x -= Decimal(east.numerator) / Decimal(east.denominator)
-        y -= Decimal(north.numerator) / Decimal(north.denominator)
-        return t + (x * x + y * y).sqrt()
 
 
 class Kinds(unittest.TestCase):
