@@ -4,13 +4,11 @@ from itertools import combinations
 
 from latestshake.meeting import is_heard, points_told
 from latestshake.numbers import order_of
-from latestshake.points import number_at
+from latestshake.points import moment_of
 from latestshake.ratios import NIL
-from latestshake.rows import is_let_by, rows_in, rows_of_kind
+from latestshake.rows import broken_at, is_let_by, rows_in, rows_of_kind
 from latestshake.scenes import need_scene
 from latestshake.sides import do_bound
-
-MOMENT = 2
 
 
 def telling_rows(scene):
@@ -45,6 +43,23 @@ def told_in(scene):
             for chosen in chosen_of(rows) for point in points_of(rows, chosen)]
 
 
+def looked_at(scene):
+    """Triples of each candidate's row indexes, its point, and the indexes of the rows that are broken there."""
+    rows = rows_in(scene)
+    return [(chosen, point, broken_at(rows, point)) for chosen, point in told_in(scene)]
+
+
+def point_fitting(scene):
+    """The first candidate's point that fits a scene; None if nothing does."""
+    rows, telling = rows_in(scene), telling_rows(scene)
+    # Not by told_in: points behind the first one that fits need not be made.
+    for chosen in chosen_of(telling):
+        for point in points_of(telling, chosen):
+            if is_let_by(rows, point):
+                return point
+    return None
+
+
 def fitting_points(scene):
     """The candidates' points that fit a scene, in order."""
     rows = rows_in(scene)
@@ -55,7 +70,7 @@ def first_in_time(points, way):
     """The first one of the latest points for the way 1, of the earliest ones for - 1; None of no points."""
     found = None
     for point in points:
-        if found is None or order_of(number_at(point, MOMENT), number_at(found, MOMENT)) == way:
+        if found is None or order_of(moment_of(point), moment_of(found)) == way:
             found = point
     return found
 
@@ -76,12 +91,7 @@ def fitting(scene):
 def fits(scene):
     """Whether something fits a scene."""
     need_scene(scene)
-    rows, telling = rows_in(scene), telling_rows(scene)
-    # Not by told_in: points behind the first one that fits need not be made.
-    for chosen in chosen_of(telling):
-        if any([is_let_by(rows, point) for point in points_of(telling, chosen)]):
-            return True
-    return False
+    return point_fitting(scene) is not None
 
 
 def latest(scene):

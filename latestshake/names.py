@@ -1,5 +1,7 @@
 """Names: the words by which stations and labels are called."""
 
+from latestshake.errors import InvalidName
+
 MOST_LETTERS = 12
 # In a text these words tell what is due next.
 TAKEN_WORDS = ("station", "at", "heard", "from", "to", "side", "up")
@@ -10,3 +12,9 @@ def is_name(value):
     if not isinstance(value, str) or not 1 <= len(value) <= MOST_LETTERS:
         return False
     return value not in TAKEN_WORDS and all(["a" <= sign <= "z" for sign in value])
+
+
+def need_name(name):
+    """Refuse what is no name."""
+    if not is_name(name):
+        raise InvalidName(name)

@@ -41,6 +41,11 @@ def number_at(point, index):
     return part, factor, point[3]
 
 
+def moment_of(point):
+    """The number of the moment of a point."""
+    return number_at(point, 2)
+
+
 def number_of(point, which):
     """The number of a point that is called "x", "y" or "t"."""
     need_point(point)

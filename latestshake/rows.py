@@ -5,6 +5,7 @@ brought to one bottom, the place of its station and its moment, or the numbers o
 """
 
 from latestshake.hearing import sign_beyond_at, sign_heard_at, spot_of
+from latestshake.numbers import first_furthest, order_of
 from latestshake.ratios import NIL, added, negative, reduced, root_of
 from latestshake.wholes import on_one_bottom
 
@@ -48,6 +49,12 @@ def is_let_by(rows, point):
     return True
 
 
+def broken_at(rows, point):
+    """The indexes of the rows that are broken at a point, ascending."""
+    spot = spot_of(point)
+    return tuple([index for index, row in enumerate(rows) if sign_at(row, spot) > 0])
+
+
 def is_within(rows, place):
     """Whether a place is within the sides among the rows."""
     (x, y), bottom = on_one_bottom(place)
@@ -64,3 +71,19 @@ def end_at(row, place):
     if distance is None:
         return moment, LESS_ONE, square
     return added(moment, negative(distance)), NIL, NIL
+
+
+def moments_by(rows, place):
+    """The first and the last moment that the rows let at a place, None for no end; None if they let none there."""
+    if not is_within(rows, place):
+        return None
+    first = first_furthest([end_at(row, place) for row in rows_of_kind(rows, "low")], 1)
+    last = first_furthest([end_at(row, place) for row in rows_of_kind(rows, "high")], -1)
+    if first is not None and last is not None and order_of(first, last) > 0:
+        return None
+    return first, last
+
+
+def is_shut_by(low, high, place):
+    """Whether a low row and a high row let no moment at a place together."""
+    return order_of(end_at(low, place), end_at(high, place)) > 0

@@ -4,15 +4,14 @@ from latestshake.errors import InvalidPlace, InvalidScene
 from latestshake.hearing import spot_of
 from latestshake.kinds import is_tuple_of
 from latestshake.names import is_name
-from latestshake.numbers import first_furthest, is_fraction, order_of
+from latestshake.numbers import is_fraction
 from latestshake.points import is_pair, need_point
-from latestshake.ratios import is_above
-from latestshake.rows import end_at, is_let_by, is_within, rows_in, rows_of_kind, sign_at
-from latestshake.sides import wrong_in_side
+from latestshake.readings import are_ends, is_end
+from latestshake.rows import is_let_by, is_shut_by, is_within, moments_by, rows_in, rows_of_kind, sign_at
+from latestshake.sides import MOST_SIDES, wrong_in_side
 
 MOST_STATIONS = 12
 MOST_READINGS = 12
-MOST_SIDES = 8
 # By signs: - 1, 0, 1 and 1 more are the indexes.
 STATES = ("holds", "tight", "broken")
 
@@ -39,13 +38,9 @@ def wrong_in_reading(reading, names):
     if not is_name(name) or name not in names:
         return (0,)
     for index in (1, 2):
-        if reading[index] is not None and not is_fraction(reading[index]):
+        if not is_end(reading[index]):
             return (index,)
-    if low is None and high is None:
-        return ()
-    if low is not None and high is not None and is_above(low, high):
-        return ()
-    return None
+    return None if are_ends(low, high) else ()
 
 
 def first_wrong(index, paths):
@@ -91,6 +86,12 @@ def need_scene(scene):
         raise InvalidScene(path)
 
 
+def scene_with(scene, sides):
+    """A scene with more sides behind its own."""
+    stations, readings, own = scene
+    return stations, readings, own + sides
+
+
 def need_place(place):
     """Refuse what is no pair of fractions."""
     if not is_pair(place):
@@ -122,14 +123,7 @@ def moments_at(scene, place):
     """The first and the last moment that a scene lets at a place, None for no end; None if it lets none there."""
     need_scene(scene)
     need_place(place)
-    rows = rows_in(scene)
-    if not is_within(rows, place):
-        return None
-    first = first_furthest([end_at(row, place) for row in rows_of_kind(rows, "low")], 1)
-    last = first_furthest([end_at(row, place) for row in rows_of_kind(rows, "high")], -1)
-    if first is not None and last is not None and order_of(first, last) > 0:
-        return None
-    return first, last
+    return moments_by(rows_in(scene), place)
 
 
 def broken_pair(scene, place):
@@ -137,12 +131,11 @@ def broken_pair(scene, place):
     need_scene(scene)
     need_place(place)
     rows = rows_in(scene)
-    highs = [(row[:2], end_at(row, place)) for row in rows_of_kind(rows, "high")]
-    for row in rows_of_kind(rows, "low"):
-        first = end_at(row, place)
-        for name, last in highs:
-            if order_of(first, last) > 0:
-                return row[:2], name
+    highs = rows_of_kind(rows, "high")
+    for low in rows_of_kind(rows, "low"):
+        for high in highs:
+            if is_shut_by(low, high, place):
+                return low[:2], high[:2]
     return None
 
 

@@ -1,9 +1,11 @@
 """Sides (U, V, C): the places (x, y) with U x + V y up to C are within it."""
 
-from latestshake.errors import InvalidSide
+from latestshake.errors import InvalidSide, InvalidSides
 from latestshake.kinds import is_tuple_of
 from latestshake.numbers import is_fraction
 from latestshake.ratios import added, multiplied, negative
+
+MOST_SIDES = 8
 
 
 def wrong_in_side(value):
@@ -27,6 +29,21 @@ def need_side(side):
     """Refuse what is no side."""
     if not is_side(side):
         raise InvalidSide(side)
+
+
+def need_sides(sides):
+    """Refuse what is no tuple of sides, as many as a scene may have."""
+    if not is_tuple_of(sides, 0, MOST_SIDES):
+        raise InvalidSides(None)
+    for index, side in enumerate(sides):
+        if not is_side(side):
+            raise InvalidSides(index)
+
+
+def opposite_side(side):
+    """The side of all places on the line of a side or beyond it."""
+    u, v, limit = side
+    return negative(u), negative(v), negative(limit)
 
 
 def leads_on(sides, way):

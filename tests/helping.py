@@ -5,7 +5,7 @@ import random
 from decimal import Decimal, localcontext
 from fractions import Fraction
 
-from latestshake.errors import InvalidScene
+from latestshake.errors import InvalidCorners, InvalidLot, InvalidScene, InvalidSides
 
 NIL, ONE, TWO = (0, 1), (1, 1), (2, 1)
 
@@ -128,13 +128,59 @@ def wrong_parts():
 
 
 WRONG_SCENES = [(changed(SCENE, path, part), wrong) for path, part, wrong in wrong_parts()]
+WRONG_WRONG = ODD + [-1, 13, 14, 10 ** 300, -10 ** 300, ONE, PAIR]
+WRONG_SQUARES = ODD + [0, -1, 25, 26, 10 ** 300, -10 ** 300, ONE, PAIR]
+HALF = (ONE, NIL, (1, 2))
+TRIANGLE = ((NIL, NIL), (ONE, NIL), (NIL, ONE))
+
+
+def told_wrong(values, is_right, least, most):
+    """Pairs of values that are no tuples of so many right elements, and where the first wrong one stands, None for none."""
+    for value in values:
+        if not isinstance(value, tuple) or not least <= len(value) <= most:
+            yield value, None
+            continue
+        wrong = next((at for at in range(len(value)) if not is_right(value, at)), None)
+        if wrong is not None:
+            yield value, wrong
+
+
+def is_right_index(value, at):
+    return type(value[at]) is int and value[at] in range(5) and (at == 0 or value[at] > value[at - 1])
+
+
+# Of SCENE, which has 5 readings.
+WRONG_LOTS = list(told_wrong(ODD + [
+    0, 1, ONE, (0, 0), (5,), (-1,), (0, 1, 2, 3, 4, 5), (0, 2, 1), (4, 3), (0, True), (False, 1), (0, 1, None), (0, (1,)),
+    (0, 1, 10 ** 300), (-10 ** 300, 1), [0, 1], (0, "1"), ((0,),), (0, [1]), {0, 1}, range(3), (0, 1, 2, 3, 4, 4), "01", (3, 1, 2),
+], is_right_index, 0, 10 ** 9))
+WRONG_SIDE_ROWS = list(told_wrong(
+    ODD + [0, 1, ONE, HALF, [HALF], (HALF,) * 9, (HALF,) * 12, (None,) * 9, {0: HALF}]
+    + [(*(HALF,) * at, value, *more) for at in (0, 1, 3) for value in WRONG_SIDES for more in ((), (HALF,), (None,))],
+    lambda value, at: value[at] == HALF, 0, 8))
+WRONG_CORNERS = list(told_wrong(
+    ODD + [0, 1, ONE, TRIANGLE[:2], TRIANGLE[:1], TRIANGLE * 3, [*TRIANGLE], ((0, 0), (1, 0), (0, 1)), {0: TRIANGLE[0]}]
+    + [(*TRIANGLE[:at], value, *TRIANGLE[at + 1:]) for at in range(3) for value in WRONG_PAIRS]
+    + [(*TRIANGLE[:at], None, *TRIANGLE[at + 1:2], [ONE, ONE]) for at in range(2)],
+    lambda value, at: value[at] in TRIANGLE, 3, 8)) + [(corners, None) for corners in [
+        TRIANGLE[::-1], (*TRIANGLE, TRIANGLE[0]), (*TRIANGLE, *TRIANGLE), (TRIANGLE[0],) * 3, (*TRIANGLE[:2], TRIANGLE[1]),
+        ((NIL, NIL), (ONE, NIL), (TWO, NIL)), ((NIL, NIL), (ONE, NIL), (TWO, NIL), (ONE, ONE))]]
+WINDOW = ((NIL, NIL), (ONE, (3, 2)), 3)
+WRONG_WINDOWS = ODD + [
+    0, 1, ONE, WINDOW[:2], (*WINDOW, 3), [*WINDOW], (WINDOW,), (WINDOW[1], WINDOW[0], 3), (WINDOW[0], WINDOW[0], 3),
+    (WINDOW[0], (NIL, ONE), 3), (WINDOW[0], (ONE, NIL), 3), (WINDOW[0], ((-1, 9), ONE), 3), (WINDOW[0], (ONE, (-1, 9)), 3),
+    *[(WINDOW[0], WINDOW[1], many) for many in WRONG_SQUARES], *[(WINDOW[0], place, 3) for place in WRONG_PAIRS],
+    *[(place, WINDOW[1], 3) for place in WRONG_PAIRS],
+]
+# What an error of these classes bears: its wrong values are told as pairs of a value and this.
+BORNE = {InvalidScene: "path", InvalidLot: "index", InvalidSides: "index", InvalidCorners: "index"}
 
 
 def refusals(test, function, signature):
     """Each argument wrong in turn, those behind it right, then wrong, too: by position, by name, in any order.
 
-    signature tells (name, right value, class of its error, wrong values) for each argument; for InvalidScene the wrong
-    values are pairs of a value and its path.
+    signature tells (name, right value, class of its error, wrong values) for each argument; for a class in BORNE the
+    wrong values are pairs of a value and what the error bears.
     """
     right = [row[1] for row in signature]
     names = [row[0] for row in signature]
@@ -145,22 +191,22 @@ def refusals(test, function, signature):
             behind = [values_of(row[2], row[3]) for row in signature[index + 1:]]
             also = [values[(at + 1) % len(values)] for values in behind]
             ahead = right[:index] + [value]
-            path = wrong[at][1] if error is InvalidScene else None
+            borne = wrong[at][1] if error in BORNE else None
             for arguments in (ahead + right[index + 1:], ahead + also):
-                refused(test, error, value, lambda: function(*arguments), path)
-                refused(test, error, value, lambda: function(**dict(reversed(list(zip(names, arguments))))), path)
+                refused(test, error, value, lambda: function(*arguments), borne)
+                refused(test, error, value, lambda: function(**dict(reversed(list(zip(names, arguments))))), borne)
 
 
 def values_of(error, wrong):
-    return [value for value, _ in wrong] if error is InvalidScene else wrong
+    return [value for value, _ in wrong] if error in BORNE else wrong
 
 
-def refused(test, error, value, call, path=None):
+def refused(test, error, value, call, borne=None):
     with test.assertRaises(error) as caught:
         call()
     test.assertIs(caught.exception.__class__, error)
-    if error is InvalidScene:
-        test.assertEqual(caught.exception.path, path)
+    if error in BORNE:
+        test.assertEqual(getattr(caught.exception, BORNE[error]), borne)
     else:
         test.assertIs(caught.exception.given, value)
 
@@ -242,6 +288,16 @@ def some_scenes(seed, many, most_readings=5):
             u, v = chance.choice([(u, v) for u in range(-2, 3) for v in range(-2, 3) if u or v])
             sides.append((u, v, Fraction(chance.randint(-3, 9), chance.choice([1, 2]))))
         yield scene_of(stations, readings, sides)
+
+
+def sides_of(*told):
+    """Sides of whole numbers and Fractions."""
+    return scene_of([], [], told)[2]
+
+
+def corners_of(*told):
+    """Corners of whole numbers and Fractions."""
+    return tuple((pair_of(x), pair_of(y)) for x, y in told)
 
 
 def some_leads():
