@@ -51,12 +51,12 @@ def certify_latest(scene):
     """The claim "latest" of a scene and its latest point, and its paper; None if there is no latest point."""
     need_scene(scene)
     looked = looked_at(scene)
-    point = first_in_time([point for _, point, broken in looked if len(broken) == 0], 1)
+    point = first_in_time([value for _, value, broken in looked if len(broken) == 0], 1)
     if point is None or len(rows_of_kind(rows_in(scene), "high")) == 0:
         return None
     last = moment_of(point)
     # A candidate that fits is not later than the latest one that does.
-    paper = [-1 if order_of(moment_of(other), last) <= 0 else broken[0] for _, other, broken in looked]
+    paper = [-1 if order_of(moment_of(value), last) <= 0 else broken[0] for _, value, broken in looked]
     return ("latest", scene, point), tuple(paper)
 
 

@@ -59,41 +59,6 @@ def is_line(words):
     return len(words) == len(kinds) + 1 and all([is_of_kind(kind, word) for kind, word in zip(kinds, words[1:])])
 
 
-def do_station(book, name, x, y):
-    """Put a station."""
-    book.put_station(name, x, y)
-
-
-def do_heard(book, label, name, low, high):
-    """Put a reading."""
-    book.put_reading(label, name, low, high)
-
-
-def do_side(book, label, u, v, c):
-    """Put a side."""
-    book.put_side(label, u, v, c)
-
-
-def do_strike(book, label):
-    """Strike a reading or a side."""
-    book.strike(label)
-
-
-def do_remove(book, name):
-    """Strike a station."""
-    book.strike_station(name)
-
-
-def do_undo(book):
-    """Undo the last step."""
-    book.undo()
-
-
-def do_redo(book):
-    """Redo the last undo."""
-    book.redo()
-
-
 def say_text(book):
     """The shown text of the scene."""
     return show(book.scene())
@@ -136,10 +101,6 @@ def say_picture(book, west, south, east, north, many):
     return "/".join(signs(book.scene(), ((west, south), (east, north), many)))
 
 
-DEEDS = {
-    "station": do_station, "heard": do_heard, "side": do_side, "strike": do_strike, "remove": do_remove, "undo": do_undo,
-    "redo": do_redo,
-}
 ANSWERS = {
     "text": say_text, "fits": say_fits, "latest": say_latest, "at": say_at, "wrong": say_wrong, "picture": say_picture,
 }
@@ -154,11 +115,20 @@ def work_told(book):
     return f"{stayed} stayed, {made} made, {looked} looked"
 
 
+def deed_of(book, word):
+    """The deed of a book that a line of a first word does; None if it does none."""
+    deeds = {
+        "station": book.put_station, "heard": book.put_reading, "side": book.put_side, "strike": book.strike,
+        "remove": book.strike_station, "undo": book.undo, "redo": book.redo,
+    }
+    return deeds.get(word)
+
+
 def answer_to(book, word, told):
     """The answer to a line of a first word and what the words behind it tell."""
-    if word in DEEDS:
-        do = DEEDS[word]
-        do(book, *told)
+    deed = deed_of(book, word)
+    if deed is not None:
+        deed(*told)
         return "done"
     if word == "work":
         return work_told(book)

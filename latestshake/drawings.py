@@ -30,7 +30,7 @@ def circle_line(x, y):
 
 
 def runs_in(signs):
-    """The longest runs of alike signs in a row, but of those that tell no place: the first column, how many, the sign."""
+    """The longest runs of "#" or "+" in a row of signs: the first column, how many, the sign."""
     starts = [at for at, sign in enumerate(signs) if at == 0 or sign != signs[at - 1]]
     ends = starts[1:] + [len(signs)]
     return [(start, end - start, signs[start]) for start, end in zip(starts, ends) if signs[start] != NONE_LET]
@@ -38,7 +38,8 @@ def runs_in(signs):
 
 def rect_lines(signs):
     """The lines of all runs, row by row."""
-    return [rect_line(row, column, many, sign) for row, told in enumerate(signs) for column, many, sign in runs_in(told)]
+    runs = [(row, run) for row, told in enumerate(signs) for run in runs_in(told)]
+    return [rect_line(row, column, many, sign) for row, (column, many, sign) in runs]
 
 
 def circle_lines(stations, window):

@@ -17,7 +17,7 @@ def has_reading(names):
 
 def indexes_behind(kept, names, rows):
     """The index that each kept row has among the new ones, for those that are there with the numbers they had."""
-    new = {name: index for index, name in enumerate(names)}
+    new = {told: at for at, told in enumerate(names)}
     found = {}
     for index, (name, row) in enumerate(zip(kept[0], kept[1])):
         if name in new and rows[new[name]][2:] == row[2:]:

@@ -68,16 +68,16 @@ def least_of(lots):
         mask = mask_of(lot)
         if not any([other & mask == other for other in found]):
             found.append(mask)
-    return tuple(sorted([lot_of(mask) for mask in found]))
+    return tuple(sorted([lot_of(least) for least in found]))
 
 
 def least_meeting(lots, many):
     """The least lots of so many elements that have an element of each of some lots, ascending."""
     masks = [mask_of(lot) for lot in lots]
-    meets = [all([other & mask != 0 for other in masks]) for mask in range(1 << many)]
+    meets = [all([other & told != 0 for other in masks]) for told in range(1 << many)]
     found = []
     for mask in range(1 << many):
-        lot = lot_of(mask)
-        if meets[mask] and not any([meets[mask ^ (1 << index)] for index in lot]):
-            found.append(lot)
+        # None of them is least that still meets all without one of its elements.
+        if meets[mask] and not any([meets[mask ^ (1 << index)] for index in lot_of(mask)]):
+            found.append(lot_of(mask))
     return tuple(sorted(found))

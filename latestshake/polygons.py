@@ -45,8 +45,8 @@ def station_of(row):
 def turning_place(low, high, edge):
     """The place between the ends of an edge where A A - 4 k k |x - s| |x - s| turns; None if it turns nowhere there.
 
-    s is the station of the low row, s' that of the high one, k the moment of the high one less that of the low one, A is
-    |x - s'| |x - s'| - |x - s| |x - s| - k k.
+    s is the station of the low row, s' that of the high one, k the moment of the high one less that of the low one, and
+    A is |x - s'| |x - s'| - |x - s| |x - s| - k k.
     """
     (start, end), moments = edge, [reduced(row[2][2], row[3]) for row in (low, high)]
     tops, bottom = on_one_bottom([*start, *end, *station_of(low), *station_of(high), *moments])

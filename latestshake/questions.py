@@ -1,4 +1,4 @@
-"""Questions about places: whether a shake can have been within sides, whether surely, whether all of a polygon is let."""
+"""Questions about places: whether a shake can have been within sides, whether surely, what of a polygon is let."""
 
 from latestshake.candidates import point_fitting
 from latestshake.errors import InvalidCorners, TooMany

@@ -1,8 +1,8 @@
 """Squares of a window: whether a scene lets the middle of each, and otherwise some place of it.
 
 Some place of a square is let exactly if a candidate of the scene with the square's four sides taken in fits. Such a
-candidate is told by rows of the scene alone, by one side of the square and one or two rows of the scene, or by two sides
-of the square and a row: then its place is a corner. So the lines between squares serve all squares.
+candidate is told by rows of the scene alone, by one side of the square and one or two rows of the scene, or by two
+sides of the square and a row: then its place is a corner. So the lines between squares serve all squares.
 """
 
 from latestshake.candidates import chosen_of, fitting_points, points_of, telling_rows
@@ -37,26 +37,33 @@ def let_middles(rows, window):
             if moments_by(rows, middle_of(window, row, column)) is not None}
 
 
+def unmarked_at(marks, window, x, y):
+    """The squares without a mark in which a place of two numbers lies."""
+    return [square for square in squares_at(window, x, y) if square not in marks]
+
+
+def mark_all(marks, squares):
+    """Mark squares as such of which some place is let."""
+    for square in squares:
+        marks[square] = SOME_LET
+
+
 def mark_points(marks, rows, window, points):
-    """Mark the squares without a mark in which the place of one of the points lies, if the rows let the point."""
+    """Mark the squares in which the place of one of the points lies, if the rows let the point."""
     for point in points:
-        squares = squares_at(window, number_at(point, 0), number_at(point, 1))
-        free = [square for square in squares if square not in marks]
-        if len(free) > 0 and is_let_by(rows, point):
-            for square in free:
-                marks[square] = SOME_LET
+        squares = unmarked_at(marks, window, number_at(point, 0), number_at(point, 1))
+        if len(squares) > 0 and is_let_by(rows, point):
+            mark_all(marks, squares)
 
 
 def mark_corners(marks, rows, window):
-    """Mark the squares without a mark of which the rows let a corner."""
+    """Mark the squares of which the rows let a corner."""
     heights = cuts_of(window, 1)
     for x in cuts_of(window, 0):
         for y in heights:
-            squares = squares_at(window, (x, NIL, NIL), (y, NIL, NIL))
-            free = [square for square in squares if square not in marks]
-            if len(free) > 0 and moments_by(rows, (x, y)) is not None:
-                for square in free:
-                    marks[square] = SOME_LET
+            squares = unmarked_at(marks, window, (x, NIL, NIL), (y, NIL, NIL))
+            if len(squares) > 0 and moments_by(rows, (x, y)) is not None:
+                mark_all(marks, squares)
 
 
 def signs_by(scene, window):

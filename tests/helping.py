@@ -83,6 +83,10 @@ SCENE = (
 )
 
 
+# Stations at the corners of a box, 5 from its middle (3, 4).
+FOUR = [("a", 0, 0), ("b", 6, 0), ("c", 0, 8), ("d", 6, 8)]
+
+
 def changed(value, path, part):
     """A tuple with another part at the end of a path."""
     if path == ():

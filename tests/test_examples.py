@@ -1,11 +1,14 @@
-"""The examples of the document's interface, as they stand there, one session from first to last."""
+"""The examples of the document's interface, as they stand there, one session from first to last; those of README.md."""
 
+import doctest
 import os
 import unittest
 
 from latestshake.errors import ShakeError
 
-EXAMPLES = os.path.join(os.path.dirname(os.path.abspath(__file__)), "examples.txt")
+HERE = os.path.dirname(os.path.abspath(__file__))
+EXAMPLES = os.path.join(HERE, "examples.txt")
+README = os.path.join(os.path.dirname(HERE), "README.md")
 AHEAD = ">>> "
 
 
@@ -39,7 +42,14 @@ class Examples(unittest.TestCase):
                 many += 1
                 with self.subTest(line=line):
                     self.assertEqual(answer(line, names), told)
-        self.assertEqual(many, 19)
+        self.assertEqual(many, 37)
+
+    def test_readme(self):
+        with open(README, encoding="utf-8") as file:
+            text = file.read().replace("```", "")
+        told = doctest.DocTestParser().get_doctest(text, {}, "README.md", README, 0)
+        self.assertGreater(len(told.examples), 30)
+        self.assertEqual(doctest.DocTestRunner(verbose=False).run(told).failed, 0)
 
 
 if __name__ == "__main__":

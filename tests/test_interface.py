@@ -15,10 +15,45 @@ INTERFACE = {
              " back(lead)",
     "text": "read(text) show(scene)",
     "candidates": "candidates(scene) fitting(scene) fits(scene) latest(scene) earliest(scene)",
+    "questions": "possibly(scene,sides) surely(scene,sides) shut_place(scene,corners) is_polygon(value)",
+    "wrong": "broken_by(scene,point) is_enough(scene,lot) point_without(scene,lot) least_lots(scene) fewest(scene)"
+             " suspects(scene) cleared(scene) conflicts(scene) least_stations(scene) likely_point(scene,many)"
+             " latest_likely(scene,many)",
+    "pictures": "signs(scene,window) drawing(scene,window) signs_in(drawing,many)",
+    "checker": "accepts(claim,paper)",
+    "certificates": "certify_fits(scene) certify_in(scene,sides) certify_latest(scene) certify_lot(scene,lot)"
+                    " certify_least(scene) certify_conflict(scene,lot) certify_likely(scene,many)",
+}
+CLASSES = {
+    ("books", "Book"): "put_station(name,x,y) strike_station(name) put_reading(label,name,low,high) put_side(label,u,v,c)"
+                       " strike(label) undo() redo() scene() labels() work() steps() kept() fits() latest() least_wrong()",
+    ("console", "Console"): "said(line)",
 }
 
 
 class Interface(unittest.TestCase):
+    def takes(self, function, parameters):
+        """Whether a function has just these parameters, by position or by name, without defaults."""
+        told = list(inspect.signature(function).parameters.values())
+        self.assertEqual([parameter.name for parameter in told], [name for name in parameters.split(",") if name])
+        for parameter in told:
+            self.assertIs(parameter.kind, parameter.POSITIONAL_OR_KEYWORD)
+            self.assertIs(parameter.default, parameter.empty)
+
+    def test_classes(self):
+        for (module, name), rows in CLASSES.items():
+            module = importlib.import_module(f"latestshake.{module}")
+            made = getattr(module, name)
+            self.assertTrue(inspect.isclass(made))
+            self.assertEqual(made.__module__, module.__name__)
+            self.takes(made, "")
+            for row in rows.split():
+                word, _, parameters = row.removesuffix(")").partition("(")
+                # Defined in the class itself, not in one above it.
+                self.assertTrue(inspect.isfunction(vars(made)[word]))
+                self.takes(getattr(made(), word), parameters)
+        self.assertIn("book", vars(importlib.import_module("latestshake.console").Console()))
+
     def test_functions(self):
         for module, rows in INTERFACE.items():
             module = importlib.import_module(f"latestshake.{module}")
@@ -27,11 +62,7 @@ class Interface(unittest.TestCase):
                 function = getattr(module, name)
                 self.assertTrue(inspect.isfunction(function), name)
                 self.assertEqual(function.__module__, module.__name__)
-                told = inspect.signature(function).parameters.values()
-                self.assertEqual([parameter.name for parameter in told], parameters.split(","), name)
-                for parameter in told:
-                    self.assertIs(parameter.kind, parameter.POSITIONAL_OR_KEYWORD)
-                    self.assertIs(parameter.default, parameter.empty)
+                self.takes(function, parameters)
 
 
 if __name__ == "__main__":

@@ -5,7 +5,7 @@ import random
 import unittest
 from fractions import Fraction
 
-from helping import (ODD, ONE, SCENE, TRIANGLE, WRONG_CORNERS, WRONG_PAIRS, WRONG_SCENES, WRONG_SIDE_ROWS,
+from helping import (FOUR, ODD, ONE, SCENE, TRIANGLE, WRONG_CORNERS, WRONG_PAIRS, WRONG_SCENES, WRONG_SIDE_ROWS,
                      as_fraction, corners_of, pair_of, pell, point, refusals, scene_of, sides_of, some_leads, some_scenes)
 from latestshake.candidates import candidates, fits, fitting
 from latestshake.errors import InvalidCorners, InvalidScene, InvalidSides, TooMany
@@ -15,7 +15,6 @@ from latestshake.questions import is_polygon, possibly, shut_place, surely
 from latestshake.scenes import is_let, moments_at, within_sides
 
 LESS = 1 / Fraction(10 ** 50)
-FOUR = [("a", 0, 0), ("b", 6, 0), ("c", 0, 8), ("d", 6, 8)]
 # Just (3, 4) at 0 is let.
 LONE = scene_of(FOUR, [("a", 5, 5), ("b", 5, 5), ("c", 5, 5)], [])
 DUO = scene_of([("west", 0, 0), ("east", 6, 0), ("north", 3, 4)], [("west", 2, 4), ("east", 2, 4)], [])

@@ -5,7 +5,7 @@ import random
 import unittest
 from fractions import Fraction
 
-from helping import (ODD, SCENE, WRONG_LOTS, WRONG_POINTS, WRONG_SCENES, WRONG_WRONG, point, refusals, scene_of, sides_of,
+from helping import (FOUR, ODD, SCENE, WRONG_LOTS, WRONG_POINTS, WRONG_SCENES, WRONG_WRONG, point, refusals, scene_of, sides_of,
                      some_leads, some_scenes, told_alike)
 from latestshake.candidates import candidates, fits, latest
 from latestshake.errors import InvalidCount, InvalidLot, InvalidPoint, InvalidScene
@@ -16,7 +16,6 @@ from latestshake.scenes import is_let, rows_of, states_at
 from latestshake.wrong import (broken_by, cleared, conflicts, fewest, is_enough, latest_likely, least_lots, least_stations,
                                likely_point, point_without, suspects)
 
-FOUR = [("a", 0, 0), ("b", 6, 0), ("c", 0, 8), ("d", 6, 8)]
 SHUT = sides_of((1, 0, 0), (-1, 0, -1))
 # What some scene or other of these brings: no reading, one, several of one station, no HIGH, no LOW, sides that let nothing.
 SPECIAL = [scene_of(*told) for told in [
@@ -134,7 +133,8 @@ class Lots(unittest.TestCase):
             self.assertEqual((lots, clash, suspects(scene), cleared(scene), fewest(scene)), ((), ((),), (), (), ()))
             return
         self.assertTrue(many == 0 or tuple(range(many)) not in lots)
-        self.assertFalse(many and any(all(index in lot for lot in lots) for index in range(many) if len(lots) == 1 and len(lots[0]) == many))
+        for index in range(many):
+            self.assertFalse(all(index in lot for lot in lots))
         # Conflicts are the least lots that meet all least lots, and back.
         subsets = all_lots(many)
         self.assertEqual(clash, least([lot for lot in subsets if all(set(lot) & set(other) for other in lots)]))
