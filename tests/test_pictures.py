@@ -331,6 +331,7 @@ class Drawings(unittest.TestCase):
             # Other colours, heights, signs.
             [rect(0, 0, 20, "red")], [rect(0, 0, 20, "Black")], [rect(0, 0, 20, "")], [rect(0, 0, 20, "black", 40)],
             [rect(0, 0, 20, "black", 0)], [rect(0, 0, 20, "blacksilver")], [rect(0, 0, 20) + " "], [" " + rect(0, 0, 20)],
+            [rect(0, 0, 20)[:rect(0, 0, 20).index(' height')]], ['<rect x="0" y="0" width=20'], ['<rect x="0"'], ["<rect"], ['<rect""""'],
             [rect(0, 0, 20).replace('"', "'")], [rect(0, 0, 20).replace("/>", " />")], [rect(0, 0, 20).replace("/>", "></rect>")],
             [rect(0, 0, 20), ""], [rect(0, 0, 20) + rect(20, 0, 20, "silver")],
         ]:
@@ -349,6 +350,8 @@ class Drawings(unittest.TestCase):
             self.refused([first, rect, circle(x, y), last], 3)
         for more in ('r="4" fill="red"', 'r="5" fill="blue"', 'r="5"', 'fill="red" r="5"', 'r="5"  fill="red"', 'r="5" fill="red" '):
             self.refused([first, rect, circle(1, 1, more), last], 3)
+        for line in ('<circle', '<circle cx="0"', '<circle cx="0" cy=0', '<circle cx="0" cy="0', '<circle""""', '"', '"0"0"', '"0"0"0'):
+            self.refused([first, rect, line, last], 3)
         self.refused([first, circle(1, 1), rect, last], 3)
         self.refused([first, rect, last, circle(1, 1)], 3)
         self.refused([circle(1, 1), first, rect, last], 3)

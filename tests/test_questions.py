@@ -385,6 +385,7 @@ class ShutPlaces(unittest.TestCase):
             (square(Fraction(19, 10), -4, 9, 4), True), (square(2 - LESS, -4, 9, 4), True),
             # One that just touches it: in the midst, at a corner.
             (square(2, -4, 9, 4), False), (square(2, 0, 9, 4), False), (square(2, -4, 9, 0), False),
+            (square(2, -4, 9, 1), False), (square(2 - LESS, -4, 9, 1), True), (square(2 - LESS, Fraction(-1, 3), 9, 4), True),
             (corners_of((2, 0), (4, -9), (4, 9)), False), (corners_of((2 - LESS, 0), (4, -9), (4, 9)), True),
             # Where A A is above 4 k k |x - s|^2, too, but A below 0: the other branch, on which nothing is shut.
             (square(4, -4, 9, 4), False), (square(5, -1, 7, 1), False), (square(6, 0, 7, 1), False), (square(30, -4, 90, 4), False),
@@ -403,6 +404,10 @@ class ShutPlaces(unittest.TestCase):
         self.everywhere(p, corners_of((-1, 11), (1, 5), (2, 20)), False)
         self.everywhere(p, corners_of((-1, 11 - LESS), (1, 5 - LESS), (2, 20)), True)
         self.everywhere(p, corners_of((-1, 11 + LESS), (1, 5 + LESS), (2, 20)), False)
+        # Not in the middle of the edge.
+        for start, end in (((-1, 11), (2, 2)), ((-5, 23), (1, 5)), ((Fraction(-1, 7), Fraction(59, 7)), (2, 2))):
+            for more, is_shut in ((0, False), (-LESS, True), (LESS, False)):
+                self.everywhere(p, corners_of((start[0], start[1] + more), (end[0], end[1] + more), (3, 40)), is_shut)
         # The edge ends ahead of where it would touch: just touching at a corner, and not at all.
         self.everywhere(p, corners_of((0, 8), (1, 5), (2, 20)), False)
         self.everywhere(p, corners_of((0, 8 - LESS), (1, 5), (2, 20)), True)
