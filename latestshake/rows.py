@@ -15,7 +15,7 @@ LESS_ONE = (-1, 1)
 def rows_in(scene):
     """The rows of a scene, in order: of each reading the high one, then the low one, then those of the sides."""
     stations, readings, sides = scene
-    places = {name: (x, y) for name, x, y in stations}
+    places = {station: (x, y) for station, x, y in stations}
     rows = []
     for index, (name, low, high) in enumerate(readings):
         for kind, moment in (("high", high), ("low", low)):
